@@ -1,0 +1,1 @@
+"""Nextbough: which packet goes next, and which chip can say so."""
