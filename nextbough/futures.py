@@ -44,14 +44,14 @@ def has_bare_rank(standing, forks):
 def moved_test(one, other, behind, queue):
     """A test where the orders are alike, and their packet at the place behind is in one at queue, not in other.
 
-    That packet is then the first one of both. If no queue has a rank (), the new packet is put
-    ahead of it in the line of queue alone, so it departs from one at once, but not from other,
-    which takes the packet from another queue. If no fork has a rank (), the new packet is put
-    behind in that line, but first in all lines above, so both take the first packet at queue.
+    That packet is then the first one of both. If no queue of one has a rank (), the new packet is
+    put ahead of it in the line of queue alone, so it departs from one at once, but not from other,
+    which takes the packet from another queue. Otherwise no fork has a rank (): the new packet is
+    put behind in that line, but first in all lines above, so both take the first packet at queue.
     """
     path = one.tree.paths[queue]
     ranks = [last_rank(one, other, node) for node in path]
-    if has_bare_rank(one, False) or has_bare_rank(other, False):
+    if has_bare_rank(one, False):
         ranks = [()] * (len(path) - 1) + [ranks[-1]]
     else:
         ranks = ranks[:-1] + [()]

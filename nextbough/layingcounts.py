@@ -40,8 +40,8 @@ def start_worths(tree, board, begun):
     """For each queue of the tree and each of the board: 1 if, as begun tells, the one may lie at the other."""
     many = len(board.leaves)
     worths = [[1 if queue == image else 0 for queue in range(many)] for image in begun]
-    free = [0 if queue in begun else 1 for queue in range(many)]
-    return worths + [list(free) for _ in range(len(tree.leaves) - len(begun))]
+    # An image that begun names needs no zeros here: no second queue comes to lie where one lies.
+    return worths + [[1] * many for _ in range(len(tree.leaves) - len(begun))]
 
 
 def tally(tree, board, worths):

@@ -133,6 +133,7 @@ class PartingTest(unittest.TestCase):
         other.push(1, 0, ((1,), ()))
         self.assertEqual(raised(parting_of, one, other), ("NotUsable", "other", -1))
         self.assertEqual(raised(lets_parting, one, other, None), ("NotUsable", "other", -1))
+        self.assertEqual(raised(parting_of, other, one), ("NotUsable", "other", -1))
         self.assertEqual(raised(parting_of, one, one.twin()), None)
         self.assertIsNone(parting_of(one, one.twin()))
         bothways = Standing(TWO)
