@@ -73,3 +73,11 @@ def most_forks(form):
     if not form:
         return 0
     return 1 + max([most_forks(kid) for kid in form])
+
+
+def need_plains(plains, least, most):
+    """Refuses plains unless they are a tuple of so many plain shapes; a bound of None is none."""
+    need(isinstance(plains, tuple) and len(plains) >= least, "plains")
+    need(most is None or len(plains) <= most, "plains")
+    for plain in plains:
+        need_plain(plain, "plains")

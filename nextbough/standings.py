@@ -23,7 +23,7 @@ class Standing:
 
     def push(self, number, queue, ranks):
         """Pushes the packet on the way (queue, ranks)."""
-        need(is_below(number, PACKET_BOUND) and number not in self.seats, "number")
+        need_absent(self, number)
         need_queue(self.tree, queue, "queue")
         need(fit_path(self.tree, queue, ranks), "ranks")
         path = self.tree.paths[queue]
@@ -87,6 +87,22 @@ class Standing:
 def need_standing(standing, word):
     """Refuses the parameter called word unless it is a Standing."""
     need(isinstance(standing, Standing), word)
+
+
+def need_standing_of(standing, form, word):
+    """Refuses the parameter called word unless it is a Standing of this shape."""
+    need_standing(standing, word)
+    need(standing.tree.form == form, word)
+
+
+def is_present(standing, number):
+    """Whether this is the number of a packet that is present."""
+    return is_below(number, PACKET_BOUND) and number in standing.seats
+
+
+def need_absent(standing, number):
+    """Refuses number unless it is that of a packet that is not present."""
+    need(is_below(number, PACKET_BOUND) and number not in standing.seats, "number")
 
 
 def standing_with(form, lines):

@@ -1,9 +1,12 @@
-"""What the tests share: samples, wrong values, and shapes told by the words of the document."""
+"""What the tests share: samples, wrong values, shapes and plans told by the words of the document."""
 
 import itertools
 import random
 
 from nextbough.errors import BoughError, NotUsable
+from nextbough.layingcounts import count_layings
+from nextbough.layingnumbers import nth_laying
+from nextbough.plans import Plan
 
 TWO = ((), ())
 PAIRS = (((), ()), ((), ()))
@@ -171,3 +174,30 @@ def listed_layings(plain, chip):
 
 def is_refused(error, word):
     return isinstance(error, NotUsable) and (error.word, error.at) == (word, -1)
+
+
+NOT_PLANS = [None, True, 0, "", (), [], (TWO, LONG, (1, 0)), TWO]
+NOT_PACKETS = NOT_NUMBERS + [2 ** 60, 2 ** 70]
+NOT_IMAGES = [None, True, 0, "", [], (), (0,), (0, 1, 2), [0, 1], (0, 0), (0, 9), (-1, 0), (True, 0), (0, False),
+              (0, None), ("0", 1), ((0,), 1), ([0], 1)]
+
+
+def sample_plans(many=40, seed=5, most=7, more=4, wide=12):
+    """Plans on chips with more queues than the plain shape, some forks of them with one child."""
+    chance = random.Random(seed)
+    plans = [Plan((), (), (0,)), Plan((), LONG, (2,)), Plan((), ((((),),),), (0,)), Plan(TWO, LONG, (1, 0)),
+             Plan(TWO, ((((), ()),),), (1, 0)), Plan(FLAT, PAIRS, (3, 1, 0, 2)), Plan(FLAT, COMB, (0, 3, 2, 1)),
+             Plan(THREE, ((((((), ()),),), ()),), (1, 0, 2)), Plan(THREE, COMB, (0, 1, 3)),
+             Plan(SIX, (((), ()), ((((), ()),), ((), ()))), (5, 0, 4, 1, 3, 2))]
+    while len(plans) < many:
+        plain = random_shape(chance, chance.randint(1, most), True)
+        chip = random_shape(chance, min(wide, len(Nodes(plain).leaves) + chance.randint(0, more)), False, 6)
+        total = count_layings(plain, chip)
+        if total:
+            plans.append(Plan(plain, chip, nth_laying(plain, chip, chance.randrange(total))))
+    return plans
+
+
+def meet_depth(nodes, one, other):
+    """The depth of the meet of two queues."""
+    return len(nodes.above[nodes.meet([one, other])])
