@@ -1,10 +1,10 @@
 """Steps as rows of code, and expressions worked out beforehand."""
 
 from nextbough.checks import need
-from nextbough.exprtrees import DIVIDING, PARTS, is_read_name, need_tree, parts_of
+from nextbough.exprtrees import DIVIDING, PARTS, is_read_name, need_tree, nodes_in, parts_of
 from nextbough.factkinds import is_name, is_worth
 from nextbough.stepkinds import MOST_RANK_TREES, are_some_steps, is_told, trees_of
-from nextbough.worths import are_named, joined_worth, worth_in
+from nextbough.worths import are_named, worth_behind, worth_in
 
 
 def section_codes(steps):
@@ -13,7 +13,7 @@ def section_codes(steps):
     rows = []
     for step in steps:
         for tree in trees_of(step):
-            add_codes(tree, rows)
+            rows.extend([code_of(part) for part in nodes_in(tree)])
         if step[0] == "rank":
             rows.append(("rank", len(step[1])))
         else:
@@ -21,16 +21,9 @@ def section_codes(steps):
     return tuple(rows)
 
 
-def add_codes(tree, rows):
-    """Adds the rows of the expression."""
-    for part in parts_of(tree):
-        add_codes(part, rows)
-    if tree[0] in DIVIDING:
-        rows.append((tree[0], tree[2]))
-    elif tree[0] in PARTS:
-        rows.append(tree[:1])
-    else:
-        rows.append(tree)
+def code_of(tree):
+    """The row of the expression itself, without those of its parts."""
+    return tree[:1] + tree[1 + len(parts_of(tree)):]
 
 
 def run_codes(rows, names):
@@ -50,22 +43,11 @@ def run_codes(rows, names):
         elif row[0] == "set":
             sets.append((row[1], worths.pop()))
         else:
-            many = PARTS.get(row[0], 0)
-            kept = len(worths) - many
-            worth = row_worth(row, worths[kept:], table)
+            worth = worth_behind(worths, row, table)
             if worth is None:
                 return None
-            worths = worths[:kept] + [worth]
+            worths.append(worth)
     return (rank, tuple(sets))
-
-
-def row_worth(row, worths, table):
-    """The worth of the expression with this row, by those of its parts, or None."""
-    if row[0] == "int":
-        return row[1]
-    if row[0] == "name":
-        return table[row[1]]
-    return joined_worth(row[0], worths + list(row[1:]))
 
 
 def are_codes(thing):
@@ -83,7 +65,8 @@ def are_codes(thing):
         if row[0] == "rank" and place + 1 < len(thing):
             return False
         many = many - taken + (0 if row[0] in ("let", "set", "rank") else 1)
-    return many == 0 and are_named_codes(thing, not (thing and thing[-1][0] == "rank"))
+    is_out = len(thing) == 0 or thing[-1][0] != "rank"
+    return many == 0 and are_named_codes(thing, is_out)
 
 
 def is_code(thing):
@@ -115,16 +98,16 @@ def are_named_codes(rows, is_out):
     # What has to be a keep.
     keeps = {}
     for row in rows:
+        if row[0] == "let" and (row[1] in lets or row[1] in keeps):
+            return False
+        if row[0] == "set" and row[1] in lets:
+            return False
+        if row[0] == "name" and not is_name(row[1]) and not is_told(row[1], is_out):
+            return False
         if row[0] == "let":
-            if row[1] in lets or row[1] in keeps:
-                return False
             lets[row[1]] = True
         elif row[0] == "set" or row[0] == "name" and is_name(row[1]) and row[1] not in lets:
-            if row[1] in lets:
-                return False
             keeps[row[1]] = True
-        elif row[0] == "name" and not is_name(row[1]) and not is_told(row[1], is_out):
-            return False
     return True
 
 

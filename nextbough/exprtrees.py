@@ -49,13 +49,15 @@ def need_tree(tree):
 
 
 def nodes_in(tree):
-    """The list of all expressions in the expression, itself the first one."""
+    """The list of all expressions in the expression, parts ahead of what they are in, from the left."""
     found = []
     left = [tree]
     while left:
         part = left.pop()
         found.append(part)
         left.extend(parts_of(part))
+    # Each one was found ahead of its parts, and these from the right.
+    found.reverse()
     return found
 
 

@@ -1,7 +1,7 @@
 """What expressions are worth."""
 
 from nextbough.checks import need
-from nextbough.exprtrees import DIVIDING, is_read_name, names_in, need_tree, parts_of
+from nextbough.exprtrees import DIVIDING, PARTS, is_read_name, names_in, need_tree, nodes_in
 from nextbough.factkinds import is_worth
 
 
@@ -30,21 +30,30 @@ def are_named(thing):
 
 def worth_in(tree, table):
     """The worth of the expression by a table that has all its names, or None."""
-    if tree[0] == "int":
-        return tree[1]
-    if tree[0] == "name":
-        return table[tree[1]]
-    worths = [worth_in(part, table) for part in parts_of(tree)]
-    if None in worths:
-        return None
-    if tree[0] in DIVIDING:
-        worths.append(tree[2])
-    return joined_worth(tree[0], worths)
+    worths = []
+    for part in nodes_in(tree):
+        worth = worth_behind(worths, part, table)
+        if worth is None:
+            return None
+        worths.append(worth)
+    return worths[0]
 
 
-def joined_worth(word, worths):
-    """The worth of the word with these worths as its arguments, or None if it is no worth."""
-    value = joined_value(word, worths)
+def worth_behind(worths, row, table):
+    """The worth of an expression, or None if it is none, by those of its parts, which it takes off the end of worths.
+
+    row is the expression, or its row of code: both begin with its word, and part and rest end with their integer.
+    """
+    if row[0] == "int":
+        return row[1]
+    if row[0] == "name":
+        return table[row[1]]
+    first = len(worths) - PARTS[row[0]]
+    taken = worths[first:]
+    del worths[first:]
+    if row[0] in DIVIDING:
+        taken.append(row[-1])
+    value = joined_value(row[0], taken)
     return value if is_worth(value) else None
 
 

@@ -2,8 +2,10 @@
 
 import itertools
 import random
+import re
 
 from nextbough.errors import BoughError, NotUsable
+from nextbough.exprtexts import expr_text
 from nextbough.layingcounts import count_layings
 from nextbough.layingnumbers import nth_laying
 from nextbough.plans import Plan
@@ -26,6 +28,9 @@ NOT_RANKS = [None, True, 0, "", [], [1], (True,), (False,), (None,), ("1",), (()
              (2 ** 200,), (-2 ** 200,), (0, 2 ** 200)]
 NOT_LINES = [None, True, 0, "", [], [((), 0)], (0,), ((),), (((), 0, 0),), ([(), 0],), (((1,), 0), ((0,), 0)),
              (((True,), 0),), ((0, 0),), ((((0,)), 0), ((), 0))]
+MOST_WORTH = 2 ** 200 - 1
+# How many arguments the words of expressions have that take expressions alone.
+WORDS = {"max": 2, "min": 2, "if": 3, "less": 2, "same": 2}
 NOT_STANDINGS = [None, True, 0, "", (), [], (((), 0),)]
 
 
@@ -201,3 +206,111 @@ def sample_plans(many=40, seed=5, most=7, more=4, wide=12):
 def meet_depth(nodes, one, other):
     """The depth of the meet of two queues."""
     return len(nodes.above[nodes.meet([one, other])])
+
+
+def deep(many):
+    """A tuple nested so deep."""
+    thing = ()
+    for _ in range(many):
+        thing = (thing,)
+    return thing
+
+
+def tree_nodes(trees):
+    """How many tuples are in these expressions, each as often as it stands there."""
+    many = 0
+    left = list(trees)
+    while left:
+        part = left.pop()
+        many += 1
+        left.extend(below for below in part[1:] if isinstance(below, tuple))
+    return many
+
+
+def random_tree(chance, deepest, names=("a", "b1", "rank", "f7", "size", "maxa", "o1"), great=False):
+    if deepest == 0 or chance.random() < 0.2:
+        if chance.random() < 0.5:
+            return ("name", chance.choice(names))
+        return ("int", chance.choice([0, 1, -1, 7, 10 ** 18 - 1, 1 - 10 ** 18] + ([MOST_WORTH, -MOST_WORTH] if great else [])))
+    word = chance.choice(["+", "-", "*", "+", "-", "*", "max", "min", "if", "less", "same", "part", "rest"])
+    if word in ("part", "rest"):
+        return (word, random_tree(chance, deepest - 1, names, great), chance.choice([1, 2, 7, 10 ** 18 - 1]))
+    return (word,) + tuple(random_tree(chance, deepest - 1, names, great) for _ in range(WORDS.get(word, 2)))
+
+
+def python_value(text, names):
+    """What Python makes of the text, which is also the text of a Python expression, but for if."""
+    calls = {"choose": lambda a, b, c: b if a != 0 else c, "less": lambda a, b: int(a < b),
+             "same": lambda a, b: int(a == b), "part": lambda a, n: a // n, "rest": lambda a, n: a % n,
+             "max": max, "min": min}
+    # Two words that Python keeps for itself.
+    text = re.sub(r"\bclass\b", "kind", re.sub(r"\bif\(", "choose(", text))
+    return eval(text, {"__builtins__": {}}, dict(names, kind=names.get("class"), **calls))
+
+
+def worths_in(tree, names):
+    """The worth of the expression by Python, or None if one of all that come up is no worth."""
+    found = []
+    left = [tree]
+    while left:
+        part = left.pop()
+        found.append(int(python_value(expr_text(part), names)))
+        left.extend(below for below in part[1:] if isinstance(below, tuple))
+    return found[0] if all(abs(worth) <= MOST_WORTH for worth in found) else None
+
+
+def random_steps(chance, keeps, is_out, great=False, lets=("a", "b", "c")):
+    """Steps of an out, or else of a section, of an origin with these keeps."""
+    names = list(keeps) + ["class", "size", "stamp", "number", "f0", "f3"] + (["rank"] if is_out else [])
+    steps = []
+    fresh = [name for name in lets if name not in keeps]
+    for _ in range(chance.randint(0, 4)):
+        tree = random_tree(chance, chance.randint(0, 3), names, great)
+        if fresh and chance.random() < 0.5:
+            steps.append(("let", fresh[0], tree))
+            names.append(fresh.pop(0))
+        elif keeps:
+            steps.append(("set", chance.choice(list(keeps)), tree))
+    if not is_out:
+        trees = [random_tree(chance, chance.randint(0, 2), names, great) for _ in range(chance.randint(1, 3))]
+        steps.append(("rank", tuple(trees)))
+    return tuple(steps)
+
+
+def random_parts(chance, form=None, great=False):
+    """Parts of a policy: one or two origins at each node, with keeps, sets, and outs with prefixes."""
+    form = random_shape(chance, chance.randint(1, 6), True) if form is None else form
+    nodes = Nodes(form)
+    many = len(nodes.shapes)
+    keeps, stands = [], []
+    for node in range(many):
+        for more in range(chance.randint(1, 2)):
+            names = chance.sample(["v", "w", "x1"], chance.randint(0, 3))
+            worths = [0, 1, -3] + ([MOST_WORTH, -MOST_WORTH] if great else [])
+            stands.append((node, f"m{node}x{more}"))
+            keeps.append((stands[-1][1], tuple((name, chance.choice(worths)) for name in names)))
+    table = {origin: [name for name, _ in pairs] for origin, pairs in keeps}
+    routes = []
+    for number in sorted(chance.sample(range(8), chance.randint(0, 5))) + ["*"]:
+        queue = chance.randrange(len(nodes.leaves))
+        sections = []
+        for node in nodes.path(queue):
+            origin = chance.choice([name for at, name in stands if at == node])
+            sections.append((origin, random_steps(chance, table[origin], False, great)))
+        routes.append((number, queue, tuple(sections)))
+    outs = []
+    for node in range(many):
+        for _ in range(chance.randint(0, 3)):
+            origin = chance.choice([name for at, name in stands if at == node])
+            prefix = chance.choice([(), (), (), (0,), (1,), (0, 1)])
+            outs.append((node, origin, prefix, random_steps(chance, table[origin], True, great)))
+    chance.shuffle(keeps)
+    return (form, tuple(f"n{node}" for node in range(many)), tuple(keeps), tuple(routes), tuple(outs))
+
+
+def random_facts(chance, great=False):
+    """Facts of a packet; now and then at their bounds."""
+    ends = [MOST_WORTH, -MOST_WORTH] if great else [5, -9]
+    return (chance.choice([0, 1, 2, 5, 7, 99, chance.randint(0, 99)]), chance.choice([1, 10 ** 6, chance.randint(1, 99)]),
+            chance.choice([0, 2 ** 60 - 1, 1 - 2 ** 60, chance.randint(-9, 9)]),
+            tuple(chance.choice([0, 1, 2, chance.choice(ends)]) for _ in range(chance.randint(0, 8))))
