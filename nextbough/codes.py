@@ -95,10 +95,10 @@ def many_taken(row):
 def are_named_codes(rows, is_out):
     """Whether lets are new names, and neither set nor read ahead of themselves, and all names may be read."""
     lets = {}
-    # What has to be a keep.
-    keeps = {}
+    # What is set or read; no let may come to be called so behind it.
+    others = {}
     for row in rows:
-        if row[0] == "let" and (row[1] in lets or row[1] in keeps):
+        if row[0] == "let" and (row[1] in lets or row[1] in others):
             return False
         if row[0] == "set" and row[1] in lets:
             return False
@@ -106,8 +106,8 @@ def are_named_codes(rows, is_out):
             return False
         if row[0] == "let":
             lets[row[1]] = True
-        elif row[0] == "set" or row[0] == "name" and is_name(row[1]) and row[1] not in lets:
-            keeps[row[1]] = True
+        elif row[0] in ("set", "name"):
+            others[row[1]] = True
     return True
 
 

@@ -1,6 +1,6 @@
 """Defeats of keepers, and plays of the foe."""
 
-from nextbough.checks import is_below
+from nextbough.checks import is_below, is_number
 from nextbough.errors import InvalidPaper
 from nextbough.foes import Foe
 from nextbough.mimics import Mimic
@@ -47,7 +47,7 @@ def check_answer(tree, board, number, answer):
 
 def is_packet(thing, packet):
     """Whether thing is the number of this packet."""
-    return is_below(thing, packet + 1) and thing == packet
+    return is_number(thing) and thing == packet
 
 
 def play_foe(plain, chip, kind, choices):

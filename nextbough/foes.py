@@ -3,7 +3,7 @@
 from nextbough.checks import need
 from nextbough.neighbours import neighbour_pushes
 from nextbough.plainforms import plainly
-from nextbough.seatlayings import laying_in
+from nextbough.seatlayings import first_seats
 from nextbough.standings import Standing
 from nextbough.steps import back_ranks_in, hop_ranks
 from nextbough.trees import forks_in, plain_tree, shape_tree
@@ -120,7 +120,7 @@ class Foe:
         else:
             broken = broken_in(self.tree, self.board, rows)
             if broken is None:
-                self.ended = ("fits", laying_in(self.tree, self.board, rows))
+                self.ended = ("fits", first_seats(rows))
                 return
             queue = broken[1]
             one = self.chosen[broken[2]][broken[4]]

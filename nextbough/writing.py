@@ -37,6 +37,7 @@ def sides_beneath(plan, owner, node):
     sides = {}
     for child, kid in enumerate(plan.tree.kids[owner]):
         top = plan.tops[kid]
-        if top != node and is_within(plan.board, top, node):
+        # The node is no top of a child: it would be the child's own.
+        if is_within(plan.board, top, node):
             sides[child] = side_toward(plan.board, node, top)
     return sides

@@ -259,6 +259,22 @@ def worths_in(tree, names):
     return found[0] if all(abs(worth) <= MOST_WORTH for worth in found) else None
 
 
+def worked_by_words(steps, names):
+    """The rank and the sets of the steps, or None if anything that comes up is no worth."""
+    names, sets, rank = dict(names), [], ()
+    for step in steps:
+        worths = [worths_in(tree, names) for tree in (step[1] if step[0] == "rank" else step[2:])]
+        if None in worths:
+            return None
+        if step[0] == "rank":
+            rank = tuple(worths)
+        elif step[0] == "let":
+            names[step[1]] = worths[0]
+        else:
+            sets.append((step[1], worths[0]))
+    return rank, tuple(sets)
+
+
 def random_steps(chance, keeps, is_out, great=False, lets=("a", "b", "c")):
     """Steps of an out, or else of a section, of an origin with these keeps."""
     names = list(keeps) + ["class", "size", "stamp", "number", "f0", "f3"] + (["rank"] if is_out else [])

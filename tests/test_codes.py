@@ -12,7 +12,7 @@ from nextbough.policytexts import read_policy
 from nextbough.routetables import route_table
 from nextbough.worths import worth_of
 from support import (COMB, FLAT, LONG, MOST_WORTH, NOT_PLANS, PAIRS, THREE, TWO, Nodes, check_refusals, deep, raised,
-                     random_parts, random_steps, random_tree, same_kinds, sample_plans, worths_in)
+                     random_parts, random_steps, random_tree, same_kinds, sample_plans, worked_by_words)
 
 ONE = ("int", 1)
 V = ("name", "v")
@@ -59,24 +59,10 @@ class CodesTest(unittest.TestCase):
             names = keeps + ["class", "size", "stamp", "number", "f0", "f3", "rank"]
             table = {name: chance.choice([0, 1, -2, 9] + ([MOST_WORTH] if great else [])) for name in names}
             told = run_codes(rows=rows, names=tuple(table.items()))
-            expected = self.worked(steps, table)
+            expected = worked_by_words(steps, table)
             nothing += expected is None
             self.assertTrue(same_kinds(told, expected), (steps, told, expected))
         self.assertGreater(nothing, 15)
-
-    def worked(self, steps, names):
-        names, sets, rank = dict(names), [], ()
-        for step in steps:
-            worths = [worths_in(tree, names) for tree in (step[1] if step[0] == "rank" else step[2:])]
-            if None in worths:
-                return None
-            if step[0] == "rank":
-                rank = tuple(worths)
-            elif step[0] == "let":
-                names[step[1]] = worths[0]
-            else:
-                sets.append((step[1], worths[0]))
-        return rank, tuple(sets)
 
     def test_run(self):
         rows = (("int", 4), ("let", "a"), ("name", "a"), ("name", "v"), ("*",), ("set", "v"), ("name", "v"), ("rank", 1))
@@ -114,7 +100,8 @@ class CodesTest(unittest.TestCase):
                (("rank", 0),), (("int", 1),) * 9 + (("rank", 9),), (("int", 1), ("let", "a"), ("int", 1), ("let", "a")),
                (("int", 1), ("let", "a"), ("int", 1), ("set", "a")), (("int", 1), ("set", "a"), ("int", 1), ("let", "a")),
                (("name", "a"), ("let", "b"), ("int", 1), ("let", "a")), (("name", "a"), ("let", "a")), (None,), ((),), ((1,),), ((["+"],),),
-               (("int", 1), ("int", 2), ("let", "a"), ("rank", 1)), (("+",),), (("int", 1), ("if",), ("rank", 1)), deep(80)]
+               (("int", 1), ("int", 2), ("let", "a"), ("rank", 1)), (("+",),), (("+",), ("int", 1)), (("keep", "a"), ("rank", 1)),
+               (("-",), ("int", 1), ("rank", 1), ("int", 1)), (("name", 5), ("rank", 1)), (("name", ["a"]), ("rank", 1)), (("int", 1), ("if",), ("rank", 1)), deep(80)]
         names = [None, True, 0, "", [], (), (("w", 1),), [("v", 1)], (("v", 1), ("v", 1)), (("v", True),), (("v", 2 ** 200),), (("v",),),
                  (("v", 1), ("root", 1)), (("v", 1), None), (["v", 1],)]
         check_refusals(self, run_codes, {"rows": good, "names": (("v", 5),)}, {"rows": bad, "names": names})

@@ -92,6 +92,9 @@ class Play:
         number, queue, ranks = push
         self.case.assertEqual(number, len(self.told))
         self.case.assertLess(number, bound)
+        if len(self.large.leaves) < len(self.small.leaves):
+            # Then there are first packets at the queues 0 to u alone.
+            self.case.assertLessEqual(queue, len(self.large.leaves))
         self.case.assertEqual(len(ranks), len(self.small.path(queue)))
         for rank in ranks:
             self.case.assertEqual(len(rank), 1)

@@ -7,7 +7,7 @@ import unittest
 from nextbough.keepings import keeping_answers
 from nextbough.standings import Standing
 from support import (COMB, FLAT, LONG, NOT_NUMBERS, NOT_PACKETS, NOT_STANDINGS, PAIRS, TWO, Nodes, check_refusals,
-                     fill, raised, sample_shapes, same_kinds)
+                     fill, sample_shapes, same_kinds)
 
 
 def order_of_items(nodes, lines, node=0):

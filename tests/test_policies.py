@@ -175,18 +175,17 @@ class PutInTest(unittest.TestCase):
                          ["part(max(v - w, v), 3)", "v - w"])
         self.assertTrue(same_kinds(put_in(steps=(("let", "a", V), ("rank", (A,)))), (V,)))
 
-    def test_five_hundred_nodes(self):
-        # Each let doubles; the rank has 2 ** k - 1 nodes.
+    def test_five_hundred_nodes_in_one(self):
+        # Each let doubles: a8 has 255 nodes, and a sum of k names has 2 * k - 1.
         doubling = ["let a1 1"] + [f"let a{k} a{k - 1} + a{k - 1}" for k in range(2, 9)]
-        self.assertEqual(tree_nodes(put_in(steps_of(*doubling, "rank a8"))), 255)
-        for more in (240, 243, 244, 245, 246):
-            # 255 nodes, one for the minus, and the rest.
-            rest = " + ".join(["v"] * (more // 2 + 1)) if more % 2 else " + ".join(["v"] * (more // 2)) + " + part(v, 2)"
-            told = put_in(steps_of(*doubling, f"rank a8 - ({rest})"))
-            size = 256 + tree_nodes((read_expr(rest),))
-            self.assertEqual(told is not None, size <= 500, size)
-            if told is not None:
-                self.assertEqual(tree_nodes(told), size)
+        rest = " + ".join(["v"] * 122)
+        for last, size in ((f"a8 - (part({rest}, 3))", 500), (f"a8 - ({rest} + size)", 501), (f"a8 - (1 + {rest})", 501)):
+            lets = doubling + [f"let b {last}"]
+            for lines in (doubling + [f"rank {last}"], lets + ["rank b"], lets + ["let c b", "rank c"]):
+                told = put_in(steps_of(*lines))
+                self.assertEqual(told is not None, size <= 500)
+                if told is not None:
+                    self.assertEqual(tree_nodes(told), size)
 
     def test_exactly_five_hundred(self):
         doubling = ["let a1 1"] + [f"let a{k} a{k - 1} + a{k - 1}" for k in range(2, 9)]

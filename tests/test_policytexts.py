@@ -145,6 +145,11 @@ class ReadTest(unittest.TestCase):
         self.assertEqual(told(one_queue(61)), ("InvalidPolicy", 4, "limit"))
         self.assertIsNone(told(comb(7)))
         self.assertEqual(told(comb(8)), ("InvalidPolicy", 0, "limit"))
+        # Tree lines may come in another sequence.
+        lines = comb(7).split("\n")
+        self.assertIsNone(told(text_of(lines[:1] + lines[7:0:-1] + lines[8:])))
+        lines = comb(8).split("\n")
+        self.assertEqual(told(text_of(lines[:1] + lines[8:0:-1] + lines[9:])), ("InvalidPolicy", 0, "limit"))
         self.assertIsNone(told(wide(16)))
         self.assertEqual(told(wide(17)), ("InvalidPolicy", 0, "limit"))
         self.assertEqual(told(comb(60)), ("InvalidPolicy", 0, "limit"))
@@ -264,6 +269,8 @@ class FormTest(unittest.TestCase):
             self.refuse(LINES[:line] + [row] + LINES[line + 1:], line)
         for row in ("class 1 d", "class 99 d"):
             self.assertIsNone(told(text_of(LINES[:line] + [row] + LINES[line + 1:])))
+        for row in ("class -1 a", "class 100 a", "class 00 a"):
+            self.refuse(LINES[:line - 1] + [row] + LINES[line:], line - 1)
         self.refuse(LINES[:line] + ["class 7 d", "class 7 d"] + LINES[line + 1:], line + 1)
         self.refuse(LINES[:line] + ["class 7 d", "class 6 d"] + LINES[line + 1:], line + 1)
         self.refuse(LINES[:line + 1] + LINES[line + 2:], line + 1)
@@ -274,13 +281,13 @@ class FormTest(unittest.TestCase):
         wrong = {
             "root r": ["root R", "root", "root ", "root tree", "root r ", "Root r", " root r", "root r s", "root abcdefghijklm"],
             "tree b (c d)": ["tree b (c)", "tree b ()", "tree b (c d e f g h i)", "tree b(c d)", "tree b (c  d)", "tree b (c d",
-                             "tree b c d", "tree b (c, d)", "tree b (c D)", "tree (c d)", "tree b  (c d)", "tree if (c d)",
+                             "tree b c d", "tree b xc d)", "tree b (c dx", "tree b (c, d)", "tree b (c D)", "tree (c d)", "tree b  (c d)", "tree if (c d)",
                              "tree b ( c d)", "tree b (c d )", "tree b (c rank)", "tree b ((c d))"],
             "at d": ["at", "at ", "at D", "at d ", "  at d", "at at"],
             "  keep e 5": ["  keep e", "  keep e ", "  keep e 05", "  keep e -0", "  keep e x", "  keep e 1 + 1", "  keep e (5)",
                            "  keep E 5", "  keep size 5", "  keep e  5", "  keep 5", " keep e 5", "    keep e 5", "  keep e --5",
                            "  keep e 1234567890123456789", "  keep e 5 "],
-            "  in a": ["  in A", "  in  a", "  in root", "  ina", "    in a", " in a", "  in a b", "  in abcdefghijklm", "  in "],
+            "  in a": ["  in A", "  in  a", "  in root", "  ina", "  inxa", "    in a", " in a", "  in a b", "  in abcdefghijklm", "  in "],
             "  in": ["  in ", "  inx", "  in d"],
             "  out": ["  out ", "    out", "  outx", "out", "  out a"],
             "    let s v + 1": ["    let s", "    let s ", "    let s v +", "    let s v+1", "    let s  v", "    let S v", "  let s v",

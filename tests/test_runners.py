@@ -8,9 +8,8 @@ from nextbough.policies import Policy
 from nextbough.policytexts import read_policy
 from nextbough.runners import Runner
 from nextbough.standings import Standing
-from support import (COMB, FLAT, MOST_WORTH, NOT_NUMBERS, NOT_PLAIN, PAIRS, SIX, THREE, TWO, Nodes, check_refusals,
-                     fill, raised, random_facts, random_parts, random_ranks, random_shape, same_kinds, sample_shapes,
-                     worths_in)
+from support import (MOST_WORTH, NOT_NUMBERS, NOT_PLAIN, PAIRS, TWO, Nodes, check_refusals, raised, random_facts,
+                     random_parts, same_kinds, sample_shapes, worked_by_words)
 
 EXAMPLE = "root q\nclass * q\nat q\n  keep v 0\n  in\n    set v v + 1\n    rank 0 - v\n  out\n    set v rank"
 FACTS = (0, 5, 0, ())
@@ -35,27 +34,12 @@ class Words:
         told = {"class": facts[0], "size": facts[1], "stamp": facts[2], "number": number}
         return dict(told, **{f"f{k}": fields[k] for k in range(8)})
 
-    def work(self, steps, names):
-        """(rank, sets), or None."""
-        names, sets, rank = dict(names), [], ()
-        for step in steps:
-            worths = [worths_in(tree, names) for tree in (step[1] if step[0] == "rank" else step[2:])]
-            if None in worths:
-                return None
-            if step[0] == "rank":
-                rank = tuple(worths)
-            elif step[0] == "let":
-                names[step[1]] = worths[0]
-            else:
-                sets.append((step[1], worths[0]))
-        return rank, sets
-
     def arrive(self, facts):
         routes = {route[0]: route for route in self.parts[3]}
         _, queue, sections = routes.get(facts[0], routes["*"])
         told = []
         for origin, steps in sections:
-            told.append((origin, self.work(steps, dict(self.names(facts, self.many), **self.keeps[origin]))))
+            told.append((origin, worked_by_words(steps, dict(self.names(facts, self.many), **self.keeps[origin]))))
         for origin, worked in told:
             if worked is None:
                 return ("TooGreat", origin)
@@ -76,7 +60,7 @@ class Words:
             for at, origin, prefix, steps in self.parts[4]:
                 if at == node and len(rank) > len(prefix) and rank[:len(prefix)] == prefix:
                     names = dict(self.names(self.facts[number], number), rank=rank[len(prefix)])
-                    worked = self.work(steps, dict(names, **self.keeps[origin]))
+                    worked = worked_by_words(steps, dict(names, **self.keeps[origin]))
                     for name, worth in worked[1] if worked else []:
                         self.keeps[origin][name] = worth
         return number

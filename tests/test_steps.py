@@ -8,7 +8,7 @@ from nextbough.neighbours import neighbour_pushes
 from nextbough.standings import Standing
 from nextbough.steps import back_ranks, hop_ranks
 from support import (COMB, FLAT, LONG, NOT_NUMBERS, NOT_PACKETS, NOT_STANDINGS, PAIRS, SIX, THREE, TWO, Nodes,
-                     check_refusals, fill, raised, sample_shapes)
+                     check_refusals, raised, sample_shapes)
 
 BOUND = 2 ** 199
 
