@@ -330,3 +330,145 @@ def random_facts(chance, great=False):
     return (chance.choice([0, 1, 2, 5, 7, 99, chance.randint(0, 99)]), chance.choice([1, 10 ** 6, chance.randint(1, 99)]),
             chance.choice([0, 2 ** 60 - 1, 1 - 2 ** 60, chance.randint(-9, 9)]),
             tuple(chance.choice([0, 1, 2, chance.choice(ends)]) for _ in range(chance.randint(0, 8))))
+
+
+NOT_POLICIES = [None, True, 0, "", "root q", (), [], TWO]
+QUEUE_WORDS = ("come", "due", "small", "free")
+NOT_FACTS = [None, True, 0, "", (), [], (0, 5, 0), (0, 5, 0, (), 0), [0, 5, 0, ()], (100, 5, 0, ()), (-1, 5, 0, ()),
+             (True, 5, 0, ()), (0, 0, 0, ()), (0, 10 ** 6 + 1, 0, ()), (0, True, 0, ()), (0, 5, 2 ** 60, ()),
+             (0, 5, None, ()), (0, 5, 0, []), (0, 5, 0, (2 ** 200,)), (0, 5, 0, (False,)), (0, 5, 0, (0,) * 9)]
+
+
+def random_discipline(chance, many, deep=3):
+    """The text of a discipline with that many queues."""
+    if many == 1:
+        return chance.choice(QUEUE_WORDS)
+    parts = min(many, chance.randint(2, 6) if deep > 0 else 6)
+    cuts = sorted(chance.sample(range(1, many), parts - 1))
+    sizes = [high - low for low, high in zip([0] + cuts, cuts + [many])]
+    kind = chance.choice(["come", "due", "small", "strict", "turns", "turns"])
+    if kind == "turns":
+        kind += "".join(f":{chance.choice([1, 1, 2, 3, 4, 6, 7, 20, chance.randint(1, 20)])}" for _ in sizes)
+    return f"{kind}({' '.join(random_discipline(chance, size, deep - 1) for size in sizes)})"
+
+
+def longest_beginning(text, begins):
+    """The length of the longest beginning of text for which begins(beginning) holds, as it does for all shorter ones."""
+    low, high = 0, len(text)
+    while low < high:
+        middle = (low + high + 1) // 2
+        low, high = (middle, high) if begins(text[:middle]) else (low, middle - 1)
+    return low
+
+
+def run_alike(case, one, other, chance, steps, great=False, facts=random_facts, looks=("order", "keeps_now", "taken")):
+    """Both take, refuse and let depart the same, and look the same; how many packets were refused."""
+    refused = 0
+    for _ in range(steps):
+        if chance.random() < 0.4:
+            case.assertEqual(one.depart(), other.depart())
+        else:
+            packet = facts(chance, great) if facts is random_facts else facts(chance)
+            told = raised(one.arrive, packet)
+            if told is None:
+                # The other one is asked by a call of its own.
+                case.assertEqual(other.arrive(packet), one.taken() - 1)
+            else:
+                refused += 1
+                case.assertEqual(raised(other.arrive, facts=packet), told)
+        for look in looks:
+            case.assertTrue(same_kinds(getattr(one, look)(), getattr(other, look)()), look)
+    return refused
+
+
+class Beginnings:
+    """Which beginnings of a text some text of a grammar has, by trying all ways; for disciplines and operators."""
+
+    def __init__(self, text, leaves):
+        self.text = text
+        self.leaves = leaves
+        # Whether the end of the text was reached amid a way.
+        self.ran_out = False
+        self.known = {}
+
+    def begins(self):
+        whole = self.part(0)
+        return self.ran_out or len(self.text) in whole
+
+    def is_whole(self):
+        return len(self.text) in self.part(0)
+
+    def literal(self, places, word):
+        found = set()
+        for at in places:
+            if self.text.startswith(word, at):
+                found.add(at + len(word))
+            elif word.startswith(self.text[at:]):
+                self.ran_out = True
+        return found
+
+    def part(self, at):
+        if at not in self.known:
+            found = set()
+            for leaf in self.leaves:
+                found |= self.names(self.literal({at}, "mount ")) if leaf == "mount" else self.literal({at}, leaf)
+            for kind in ("come", "due", "small", "strict"):
+                for many in range(2, 7):
+                    found |= self.kids(self.literal({at}, kind + "("), many)
+            for many in range(2, 7):
+                places = self.literal({at}, "turns")
+                for _ in range(many):
+                    places = set().union(*[self.literal(places, f":{weight}") for weight in range(1, 21)])
+                found |= self.kids(self.literal(places, "("), many)
+            self.known[at] = found
+        return self.known[at]
+
+    def kids(self, places, many):
+        for place in range(many):
+            if place:
+                places = self.literal(places, " ")
+            places = set().union(*[self.part(at) for at in places])
+        return self.literal(places, ")")
+
+    def names(self, places):
+        barred = "root tree class at keep in out let set rank max min if less same part rest size stamp number o".split()
+        barred += [f"f{k}" for k in range(8)]
+        found = set()
+        for at in places:
+            for end in range(at, min(at + 12, len(self.text)) + 1):
+                if not re.fullmatch("([a-z][a-z0-9]*)?", self.text[at:end]):
+                    break
+                if end == len(self.text) and end < at + 12:
+                    self.ran_out = True
+                if end > at and self.text[at:end] not in barred:
+                    found.add(end)
+        return found
+
+
+def near_texts(chance, text, signs, many):
+    """The text cut at each place, and some with a sign more, less or another."""
+    found = [text[:at] for at in range(len(text) + 1)]
+    for _ in range(many):
+        at = chance.randint(0, len(text))
+        sign = chance.choice(signs)
+        found.append(chance.choice([text[:at] + sign + text[at:], text[:at] + text[at + 1:], text[:at] + sign + text[at + 1:]]))
+    return found
+
+
+def random_operator(chance, many, names=None, deep=3):
+    """The text of an operator with that many places, and what is to be read."""
+    if many == 1:
+        name = chance.choice(names) if names else f"{chance.choice('abmz')}{chance.randrange(10 ** 6)}"
+        return f"mount {name}", ((name,), (), ())
+    parts = min(many, chance.randint(2, 6) if deep > 0 else 6)
+    cuts = sorted(chance.sample(range(1, many), parts - 1))
+    rows = [random_operator(chance, high - low, names, deep - 1) for low, high in zip([0] + cuts, cuts + [many])]
+    word = chance.choice(["come", "due", "small", "strict", "turns", "turns"])
+    weights = tuple(chance.randint(1, 20) for _ in rows) if word == "turns" else ()
+    head = word + "".join(f":{weight}" for weight in weights)
+    places = sum((told[0] for _, told in rows), ())
+    kinds = sum((told[1] for _, told in rows), ((word, weights),))
+    text = f"{head}({' '.join(text for text, _ in rows)})"
+    if names is None and len(set(places)) < len(places):
+        return random_operator(chance, many, names, deep)
+    return text, (places, kinds, tuple(told[2] for _, told in rows))
