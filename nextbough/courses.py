@@ -30,6 +30,11 @@ class Course:
         """Works out the outs when the packet departs from queue, these ranks being taken away."""
         work_outs(self.policy, self.keeps, (self.facts.pop(number), number), queue, ranks)
 
+    def go_on_by(self, policy):
+        """Goes on by another policy, with new keeps."""
+        self.policy = policy
+        self.keeps = keeps_at_first(policy)
+
 
 def arrive_on(course, lines, facts):
     """A packet of the course arrives and is pushed on the lines; its number."""

@@ -7,8 +7,8 @@ of a place and where it stands for the word mount, and is () for others; parts a
 from nextbough.errors import InvalidText
 from nextbough.exprtexts import need_signs, word_end
 from nextbough.factkinds import is_name
-from nextbough.numbertexts import read_below
 from nextbough.shapekinds import MOST_CHILDREN
+from nextbough.textparts import need_end, read_below
 
 FORK_WORDS = ("come", "due", "small", "strict", "turns")
 PLACE_WORD = "mount"
@@ -19,8 +19,7 @@ GREATEST_WEIGHT = 20
 def read_whole(text, leaves):
     """The fork or leaf that the text is, leaves being the words of these."""
     part, end = read_part(text, 0, leaves)
-    if end < len(text):
-        raise InvalidText(end)
+    need_end(text, end)
     return part
 
 

@@ -9,6 +9,7 @@ from nextbough.exprtexts import expr_text
 from nextbough.layingcounts import count_layings
 from nextbough.layingnumbers import nth_laying
 from nextbough.plans import Plan
+from nextbough.standings import Standing
 
 TWO = ((), ())
 PAIRS = (((), ()), ((), ()))
@@ -472,3 +473,54 @@ def random_operator(chance, many, names=None, deep=3):
     if names is None and len(set(places)) < len(places):
         return random_operator(chance, many, names, deep)
     return text, (places, kinds, tuple(told[2] for _, told in rows))
+
+
+class Words:
+    """A policy at work by the words, as slow as it may be."""
+
+    def __init__(self, parts):
+        self.parts = parts
+        self.nodes = Nodes(parts[0])
+        self.held = Standing(parts[0])
+        self.keeps = {origin: dict(pairs) for origin, pairs in parts[2]}
+        self.facts = {}
+        self.many = 0
+
+    def names(self, facts, number):
+        fields = list(facts[3]) + [0] * 8
+        told = {"class": facts[0], "size": facts[1], "stamp": facts[2], "number": number}
+        return dict(told, **{f"f{k}": fields[k] for k in range(8)})
+
+    def arrive(self, facts):
+        routes = {route[0]: route for route in self.parts[3]}
+        _, queue, sections = routes.get(facts[0], routes["*"])
+        told = []
+        for origin, steps in sections:
+            told.append((origin, worked_by_words(steps, dict(self.names(facts, self.many), **self.keeps[origin]))))
+        for origin, worked in told:
+            if worked is None:
+                return ("TooGreat", origin)
+        for origin, worked in told:
+            for name, worth in worked[1]:
+                self.keeps[origin][name] = worth
+        self.held.push(self.many, queue, tuple(worked[0] for _, worked in told))
+        self.facts[self.many] = facts
+        self.many += 1
+        return self.many - 1
+
+    def depart(self):
+        gone = self.held.depart()
+        if gone is None:
+            return None
+        number, queue, ranks = gone
+        for node, rank in zip(self.nodes.path(queue), ranks):
+            for at, origin, prefix, steps in self.parts[4]:
+                if at == node and len(rank) > len(prefix) and rank[:len(prefix)] == prefix:
+                    names = dict(self.names(self.facts[number], number), rank=rank[len(prefix)])
+                    worked = worked_by_words(steps, dict(names, **self.keeps[origin]))
+                    for name, worth in worked[1] if worked else []:
+                        self.keeps[origin][name] = worth
+        return number
+
+    def keeps_now(self):
+        return tuple((origin, tuple((name, self.keeps[origin][name]) for name, _ in pairs)) for origin, pairs in self.parts[2])

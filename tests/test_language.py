@@ -277,16 +277,22 @@ class ExpressionsTest(unittest.TestCase):
                 self.assertIsInstance(node.right, ast.Constant, (name, node.lineno))
                 self.assertLessEqual(node.right.value, 64)
 
-    def test_is_stands_beside_none_alone(self):
+    def test_is_stands_beside_none_and_kinds_alone(self):
         for name, node in walked(ast.Compare):
             for sign, right in zip(node.ops, node.comparators):
                 if isinstance(sign, (ast.Is, ast.IsNot)):
-                    kinds = isinstance(right, ast.Call) and getattr(right.func, "id", "") == "type"
+                    # The kind of a value is asked beside a class by its name, or beside that of another value.
+                    kinds = isinstance(node.left, ast.Call) and getattr(node.left.func, "id", "") == "type"
+                    kinds = kinds and (isinstance(right, ast.Name) or getattr(right.func, "id", "") == "type")
                     plain = isinstance(right, ast.Constant) and right.value in (None, True, False)
                     self.assertTrue(kinds or plain, (name, node.lineno))
 
     def test_errors_are_raised_by_name(self):
+        again = [(name, node.lineno) for name, held in walked(ast.ExceptHandler) for node in held.body]
         for name, node in walked(ast.Raise):
+            if node.exc is None:
+                self.assertIn((name, node.lineno), again)
+                continue
             self.assertIsInstance(node.exc, ast.Call, (name, node.lineno))
             self.assertRegex(node.exc.func.id, r"^[A-Z]", (name, node.lineno))
 

@@ -8,65 +8,11 @@ from nextbough.policies import Policy
 from nextbough.policytexts import read_policy
 from nextbough.runners import Runner
 from nextbough.standings import Standing
-from support import (MOST_WORTH, NOT_NUMBERS, NOT_PLAIN, PAIRS, TWO, Nodes, check_refusals, raised, random_facts,
-                     random_parts, same_kinds, sample_shapes, worked_by_words)
+from support import (MOST_WORTH, NOT_FACTS, NOT_NUMBERS, NOT_PLAIN, NOT_POLICIES, PAIRS, TWO, Nodes, Words, check_refusals,
+                     raised, random_facts, random_parts, same_kinds, sample_shapes)
 
 EXAMPLE = "root q\nclass * q\nat q\n  keep v 0\n  in\n    set v v + 1\n    rank 0 - v\n  out\n    set v rank"
 FACTS = (0, 5, 0, ())
-NOT_FACTS = [None, True, 0, "", (), [], FACTS[:3], FACTS + (0,), list(FACTS), (100, 5, 0, ()), (-1, 5, 0, ()),
-             (True, 5, 0, ()), (0, 0, 0, ()), (0, 10 ** 6 + 1, 0, ()), (0, True, 0, ()), (0, 5, 2 ** 60, ()),
-             (0, 5, None, ()), (0, 5, 0, []), (0, 5, 0, (2 ** 200,)), (0, 5, 0, (False,)), (0, 5, 0, (0,) * 9)]
-
-
-class Words:
-    """A policy at work by the words, as slow as it may be."""
-
-    def __init__(self, parts):
-        self.parts = parts
-        self.nodes = Nodes(parts[0])
-        self.held = Standing(parts[0])
-        self.keeps = {origin: dict(pairs) for origin, pairs in parts[2]}
-        self.facts = {}
-        self.many = 0
-
-    def names(self, facts, number):
-        fields = list(facts[3]) + [0] * 8
-        told = {"class": facts[0], "size": facts[1], "stamp": facts[2], "number": number}
-        return dict(told, **{f"f{k}": fields[k] for k in range(8)})
-
-    def arrive(self, facts):
-        routes = {route[0]: route for route in self.parts[3]}
-        _, queue, sections = routes.get(facts[0], routes["*"])
-        told = []
-        for origin, steps in sections:
-            told.append((origin, worked_by_words(steps, dict(self.names(facts, self.many), **self.keeps[origin]))))
-        for origin, worked in told:
-            if worked is None:
-                return ("TooGreat", origin)
-        for origin, worked in told:
-            for name, worth in worked[1]:
-                self.keeps[origin][name] = worth
-        self.held.push(self.many, queue, tuple(worked[0] for _, worked in told))
-        self.facts[self.many] = facts
-        self.many += 1
-        return self.many - 1
-
-    def depart(self):
-        gone = self.held.depart()
-        if gone is None:
-            return None
-        number, queue, ranks = gone
-        for node, rank in zip(self.nodes.path(queue), ranks):
-            for at, origin, prefix, steps in self.parts[4]:
-                if at == node and len(rank) > len(prefix) and rank[:len(prefix)] == prefix:
-                    names = dict(self.names(self.facts[number], number), rank=rank[len(prefix)])
-                    worked = worked_by_words(steps, dict(names, **self.keeps[origin]))
-                    for name, worth in worked[1] if worked else []:
-                        self.keeps[origin][name] = worth
-        return number
-
-    def keeps_now(self):
-        return tuple((origin, tuple((name, self.keeps[origin][name]) for name, _ in pairs)) for origin, pairs in self.parts[2])
 
 
 class RunnerTest(unittest.TestCase):
@@ -198,7 +144,7 @@ class RunnerTest(unittest.TestCase):
 
     def test_wrong_parameters(self):
         policy = read_policy(EXAMPLE)
-        check_refusals(self, Runner, {"policy": policy}, {"policy": [None, True, 0, "", EXAMPLE, (), [], policy.parts()]})
+        check_refusals(self, Runner, {"policy": policy}, {"policy": NOT_POLICIES + [policy.parts()]})
         run = Runner(policy)
         check_refusals(self, run.arrive, {"facts": FACTS}, {"facts": NOT_FACTS})
         self.assertEqual((run.taken(), run.order(), run.keeps_now()), (0, (), policy.parts()[2]))
