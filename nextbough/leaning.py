@@ -9,7 +9,7 @@ from nextbough.policies import Policy, need_policy
 def lean_policy(policy):
     """The policy behind all melts that can be done, each time the first one, and these melts."""
     need_policy(policy, "policy")
-    left = policy
+    left = Policy(policy.given)
     melts = []
     found = first_melt(left)
     while found is not None:

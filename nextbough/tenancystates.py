@@ -31,7 +31,8 @@ def put_state(tenancy, state):
         tenancy.tenants[row[0]] = tenant_of(row[1:])
     for number, place, own in packets:
         tenancy.packets[number] = (place, own)
-    tenancy.forks.turns = [list(keeps) for keeps in turns]
+    forks = tenancy.forks
+    forks.turns = [list(keeps) for keeps in turns]
     tenancy.many = many
     chip, images, rows = held
     lines = tenancy.lines
@@ -44,7 +45,8 @@ def tenant_of(state):
     """The tenant that has this state."""
     text, room, lean, keeps, facts, counts = state
     tenant = Tenant(text, room, lean)
-    tenant.course.keeps = {origin: {name: worth for name, worth in pairs} for origin, pairs in keeps}
-    tenant.course.facts = {number: told for number, told in facts}
-    tenant.course.many, tenant.refused, tenant.departed = counts
+    course = tenant.course
+    course.keeps = {origin: {name: worth for name, worth in pairs} for origin, pairs in keeps}
+    course.facts = {number: told for number, told in facts}
+    course.many, tenant.refused, tenant.departed = counts
     return tenant
