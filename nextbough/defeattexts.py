@@ -15,7 +15,7 @@ def defeat_text(defeat):
 
 def is_defeat(thing):
     """Whether thing is a tuple of at least one answer, and three numbers."""
-    if not isinstance(thing, tuple) or len(thing) != 4 or not is_numbers(thing[1:], 3, PACKET_BOUND):
+    if not isinstance(thing, tuple) or not is_numbers(thing[1:], 3, PACKET_BOUND):
         return False
     answers = thing[0]
     return isinstance(answers, tuple) and len(answers) > 0 and all([is_answer(answer) for answer in answers])

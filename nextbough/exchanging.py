@@ -2,7 +2,6 @@
 
 from nextbough.checks import is_numbers, need
 from nextbough.cutting import replaced_bough
-from nextbough.shapekinds import need_shape
 from nextbough.standings import Standing, need_standing, order_at, standing_with
 from nextbough.trees import need_node
 
@@ -12,7 +11,6 @@ def exchanged(standing, node, form, queues):
     need_standing(standing, "standing")
     tree = standing.tree
     need_node(tree, node, "node")
-    need_shape(form, "form")
     inner = Standing(form)
     numbers = order_at(tree, standing.lines, node)
     need(is_numbers(queues, len(numbers), len(inner.tree.leaves)), "queues")

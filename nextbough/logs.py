@@ -40,7 +40,6 @@ def are_words(thing):
 
 def fork_log(policy, deeds, fork):
     """The log of the fork when the packets of the deeds come and depart."""
-    need_policy(policy, "policy")
     need(are_deeds(policy, deeds), "deeds")
     tree = policy.tree
     need_fork(tree, fork, "fork")

@@ -137,8 +137,8 @@ def into_parts(policy, node):
     for route in routes_through(policy, node):
         if not echoes(policy, route[2][depth + 1], route[2][depth]):
             return None
-    routes = [(route[0], route[1], route[2][:depth + 1]) for route in routes_through(policy, node)]
-    return queue_parts(policy, node, routes, list(policy.given[4]))
+    changed = {route[0]: route[2][:depth + 1] for route in routes_through(policy, node)}
+    return queue_parts(policy, node, changed, policy.given[4])
 
 
 def rows_by_kid(policy, node):
@@ -166,30 +166,31 @@ def into_ahead(policy, node, rows):
     """The parts behind the melt of the fork into a queue by such rows of its children."""
     tree = policy.tree
     depth = tree.depths[node]
-    routes = []
+    changed = {}
     for number, queue, sections in routes_through(policy, node):
         row = rows[tree.leaves[queue]]
-        routes.append((number, queue, sections[:depth] + (with_ahead(sections[depth + 1], row),)))
+        changed[number] = sections[:depth] + (with_ahead(sections[depth + 1], row),)
     outs = []
     for place, origin, prefix, steps in policy.given[4]:
         if place in rows:
             outs.append((node, origin, integers_of(rows[place]) + prefix, steps))
         elif place not in tree.kids[node]:
             outs.append((place, origin, prefix, steps))
-    return queue_parts(policy, node, routes, outs)
+    return queue_parts(policy, node, changed, outs)
 
 
 def queue_parts(policy, node, changed, outs):
-    """The parts in which the fork of queues is a queue; changed are the routes through it, as they become."""
+    """The parts in which the fork of queues is a queue; changed has the new sections of each class through it."""
     tree = policy.tree
     form, names, keeps, rows, _ = policy.given
     low = tree.lows[node]
     gone = len(tree.kids[node])
-    become = {route[0]: (route[0], low, route[2]) for route in changed}
     routes = []
     for number, queue, sections in rows:
-        place = queue - gone + 1 if queue > low else queue
-        routes.append(become.get(number, (number, place, sections)))
+        if number in changed:
+            routes.append((number, low, changed[number]))
+        else:
+            routes.append((number, queue - gone + 1 if queue > low else queue, sections))
     moved = []
     for place, origin, prefix, steps in outs:
         moved.append((place - gone if place > node else place, origin, prefix, steps))
@@ -244,10 +245,10 @@ def is_begun(policy, node, row):
 
 
 def longest_at(policy, node):
-    """How many elements the longest row or prefix at the node has."""
+    """How many elements the longest row or prefix at the node, which has a route, has."""
     depth = policy.tree.depths[node]
     rows = [len(row_of(route[2][depth])) for route in routes_through(policy, node)]
-    return max(rows + [len(out[2]) for out in outs_at(policy, node)], default=0)
+    return max(rows + [len(out[2]) for out in outs_at(policy, node)])
 
 
 def with_ahead(section, row):

@@ -140,6 +140,8 @@ class RankSetsTest(unittest.TestCase):
     def test_bounds(self):
         self.check_values(["rank rest(f0, 64)"], tuple((k,) for k in range(64)))
         self.check_values(["rank rest(f0, 65)"], None)
+        self.check_values(["rank less(rest(f0, 64), 0)"], ((0,),))
+        self.check_values(["rank less(rest(f0, 65), 0)"], ((0,), (1,)))
         self.check_values(["rank part(rest(f0, 64), 1) + 1"], tuple((k,) for k in range(1, 65)))
         # More than 64 values within an expression become None, also where fewer would be left.
         self.check_values(["rank part(rest(f0, 64) + rest(f1, 2), 2)"], None)

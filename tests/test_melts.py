@@ -349,6 +349,11 @@ class MeltTest(unittest.TestCase):
             self.assertEqual(rank_put_in(steps) is not None, fits)
             policy = policy_of(((), TWO), [[NUMBER, STAMP]] + [[steps, steps, STAMP]] * 2)
             self.assertIs(can_melt(policy, "same", 2), fits)
+        # What has too many nodes on one side only is no echo, either.
+        great = self.doubled(501)
+        for top, below in ((great, NUMBER), (NUMBER, great), (great, self.doubled(499)), (self.doubled(499), great)):
+            policy = policy_of(((), TWO), [[NUMBER, STAMP]] + [[top, below, STAMP]] * 2)
+            self.assertIs(can_melt(policy, "same", 2), False)
         more = self.doubled(499)
         for rank, fits in (((ONE,), True), ((ONE, ONE), False)):
             steps = more[:-1] + (("rank", more[-1][1] + rank),)
