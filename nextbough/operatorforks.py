@@ -18,7 +18,10 @@ class OperatorForks:
 
     def admit(self, place, number, facts):
         """The ranks, at the forks above the place, of the packet that is taken there."""
-        return tuple([(self._rank_at(fork, child, number, facts),) for fork, child in self.ways[place]])
+        ranks = []
+        for fork, child in self.ways[place]:
+            ranks.append((self._rank_at(fork, child, number, facts),))
+        return tuple(ranks)
 
     def _rank_at(self, fork, child, number, facts):
         """The rank of the packet at the fork; what turns keep goes on."""
